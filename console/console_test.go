@@ -390,7 +390,7 @@ func TestQ2None(t *testing.T) {
 	}
 }
 
-// TestQ2Long: a line of MaxLine bytes is read, a longer one is not, whatever it says.
+// TestQ2Long: a line of MaxLine bytes is read, a longer one is not, whatever it says, over a stream and without one.
 func TestQ2Long(t *testing.T) {
 	pad := func(size int) string { return "ask 3 " + plain + strings.Repeat(" ", size-6-len(plain)) }
 	cases := []struct{ line, want string }{
@@ -406,12 +406,23 @@ func TestQ2Long(t *testing.T) {
 			t.Errorf("%d bytes, %.30q at first: %q, not %q", len(c.line), c.line, got, c.want)
 		}
 	}
-	for _, long := range []string{strings.Repeat("x", api.MaxLine+1), "rows" + strings.Repeat(" ", api.MaxLine), "step " + strings.Repeat("0", api.MaxLine)} {
-		if got := begun(t, long); got != "error 4" {
-			t.Errorf("%.30q: %q", long, got)
+	for _, head := range []string{"", "x", "rows ", "step 0", "step ", "put 0 1 null null null", "save", "arm 0", "restart 0", "asks", "\xff", "ä"} {
+		longest := head + strings.Repeat(" ", api.MaxLine-len(head))
+		if got := run(t, longest)[0]; got != "error 8" {
+			t.Errorf("%d bytes, %.30q at first: %q", len(longest), longest, got)
 		}
-		if got := run(t, long)[0]; got != "error 8" {
-			t.Errorf("%.30q at first: %q", long, got)
+		for _, long := range []string{longest + " ", longest + "0", longest + longest} {
+			if got := begun(t, long); got != "error 4" {
+				t.Errorf("%d bytes, %.30q: %q", len(long), long, got)
+			}
+			for _, first := range []string{"rows", "fly", "ask", "ask 0 " + plain, "ask 1 select", long} {
+				if got := run(t, first, long, "rows"); got[1] != "error 4" || got[2] != "error 8" {
+					t.Errorf("%d bytes, %.30q behind %.30q: %q", len(long), long, first, got)
+				}
+			}
+			if got := run(t, long, "ask 1 "+plain, long, "rows"); !slices.Equal(got, []string{"error 4", "ok", "error 4", "-"}) {
+				t.Errorf("%d bytes, %.30q ahead of an ask: %q", len(long), long, got)
+			}
 		}
 	}
 }

@@ -59,11 +59,8 @@ func nameOf(text string) string {
 	return name
 }
 
-// read a line.
+// read a line that isn't too long.
 func read(text string) (line, error) {
-	if len(text) > api.MaxLine {
-		return line{}, api.ErrText
-	}
 	for _, f := range forms {
 		// A word too many is left in the last one, which no number, no value and no name has.
 		words := strings.SplitN(text, " ", 1+len(f.kinds))
